@@ -192,6 +192,14 @@ func TestJoinOfPaths(t *testing.T) { // F1
 	}
 }
 
+func TestIsPath(t *testing.T) { // F1: what a half is
+	for _, p := range paths() {
+		if got, want := IsPath(p), !slices.ContainsFunc(p, func(c byte) bool { return c > 15 }); got != want {
+			t.Errorf("whether %v is a path is %v, not %v", p, got, want)
+		}
+	}
+}
+
 func TestTagOfNamedPaths(t *testing.T) { // F2
 	for _, c := range []struct {
 		p    []byte
