@@ -1,6 +1,7 @@
 package root
 
 import (
+	"bytes"
 	"slices"
 
 	"lampbearer/api"
@@ -50,19 +51,16 @@ func parts(s api.Shape) int {
 }
 
 // write is the form of s, which is a shape.
-func write(s api.Shape) []byte { return pack.Encode(itemOf(s)) }
-
-// itemOf is the item that stands for s, which is a shape.
-func itemOf(s api.Shape) api.Item {
+func write(s api.Shape) []byte {
 	switch s.Kind {
 	case api.NodeLeaf:
-		return listOf(tagged(s.Path, true), s.Value)
+		return pack.EncodeTexts(tagged(s.Path, true), s.Value)
 	case api.NodeRoad:
-		return listOf(tagged(s.Path, false), s.Kids[0])
+		return pack.EncodeTexts(tagged(s.Path, false), s.Kids[0])
 	case api.NodeFork:
-		return listOf(forkTexts(s)...)
+		return pack.EncodeTexts(forkTexts(s)...)
 	}
-	return api.Item{}
+	return pack.Encode(api.Item{})
 }
 
 // tagged is the tag of a shape's path, which has halves alone.
@@ -76,39 +74,20 @@ func forkTexts(s api.Shape) [][]byte {
 	return slices.Concat(s.Kids, [][]byte{s.Value})
 }
 
-func listOf(texts ...[]byte) api.Item {
-	list := api.Item{List: true}
-	for _, text := range texts {
-		list.Kids = append(list.Kids, api.Item{Text: text})
+// shapeOf is the shape for which code would stand, if that is one; false, if it can't stand for any.
+func shapeOf(code []byte) (api.Shape, bool) {
+	none := api.Shape{Kind: api.NodeNone}
+	if bytes.Equal(code, write(none)) {
+		return none, true
 	}
-	return list
-}
-
-// shapeOf is the shape for which it would stand, if that is one; false, if it can't stand for any.
-func shapeOf(it api.Item) (api.Shape, bool) {
-	if !it.List {
-		return api.Shape{Kind: api.NodeNone}, len(it.Text) == 0
-	}
-	texts, ok := textsOf(it)
+	texts, err := pack.DecodeTexts(code)
 	switch {
-	case ok && len(texts) == 2:
+	case err == api.OK && len(texts) == 2:
 		return taggedShape(texts[0], texts[1])
-	case ok && len(texts) == width+1:
+	case err == api.OK && len(texts) == width+1:
 		return api.Shape{Kind: api.NodeFork, Kids: slices.Clone(texts[:width]), Value: texts[width]}, true
 	}
 	return api.Shape{}, false
-}
-
-// textsOf is the texts of a list; false, if a list is among them.
-func textsOf(list api.Item) ([][]byte, bool) {
-	var texts [][]byte
-	for _, kid := range list.Kids {
-		if kid.List {
-			return nil, false
-		}
-		texts = append(texts, kid.Text)
-	}
-	return texts, true
 }
 
 // taggedShape is a leaf or a road, as the tag of its path says; false, if it is no tag.
