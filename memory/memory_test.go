@@ -350,6 +350,29 @@ func TestPut(t *testing.T) { // K3
 	}
 }
 
+func TestTouchOfARoom(t *testing.T) { // K2: what a frame does to its memory
+	var r Room
+	for _, c := range []struct {
+		at, n api.Word
+		cost  uint64
+		size  int
+		err   api.Errno
+	}{
+		{w(full), w(0), 0, 0, api.OK}, {w(4096), w(1), 0, 0, api.ErrMuch}, {w(3), w(5), 3, 32, api.OK}, {w(0), w(32), 0, 32, api.OK}, {w(0), w(33), 3, 64, api.OK},
+		{api.Word{1, 1}, w(full), 0, 64, api.ErrMuch}, {w(1), api.Word{full, full, full, full}, 0, 64, api.ErrMuch}, {w(4095), w(1), 634, 4096, api.OK}, {w(0), w(4096), 0, 4096, api.OK},
+	} {
+		part, cost, err := r.Touch(c.at, c.n)
+		if err != c.err || cost != c.cost || r.Size() != c.size || err == api.OK && len(part) != int(c.n[0]) || err != api.OK && part != nil {
+			t.Errorf("%v bytes at %v: %d bytes for %d, %d; the memory has %d", c.n, c.at, len(part), cost, err, r.Size())
+		}
+	}
+	part, _, _ := r.Touch(w(7), w(3))
+	copy(part, "abc")
+	if again, _, _ := r.Touch(w(6), w(5)); string(again) != "\x00abc\x00" {
+		t.Errorf("what was put there is %q", again)
+	}
+}
+
 func TestAnotherKind(t *testing.T) { // K3, Z5: whatever stands in its fields
 	for _, kind := range []int{0, -1, 6, 7, 256 + 1, 1<<32 + 1, -api.MemPut, math.MinInt, math.MaxInt} {
 		for _, at := range append(farPlaces(), w(0), w(300)) {

@@ -5,9 +5,22 @@ import (
 	"lampbearer/word"
 )
 
-// room is a memory: its bytes are always a multiple of wordBytes.
-type room struct {
+// Room is a memory: at first it has no bytes, and always a multiple of wordBytes.
+type Room struct {
 	bytes []byte
+}
+
+// Size is how many bytes r has.
+func (r *Room) Size() int { return len(r.bytes) }
+
+// Touch makes r have n bytes at a place, and answers these, which are r's own, with what it cost to grow; ErrMuch, if no memory has them.
+func (r *Room) Touch(at, n api.Word) (part []byte, cost uint64, err api.Errno) {
+	s, err := spanOf(at, n)
+	if err != api.OK {
+		return nil, 0, err
+	}
+	cost = r.grow(s.to)
+	return r.part(s), cost, api.OK
 }
 
 // span is a part of a memory that may be touched; that of no bytes begins at 0, wherever it was asked for.
@@ -62,7 +75,7 @@ func spansOf(op api.MemOp) (at, from span, err api.Errno) {
 }
 
 // do does op, and tells what comes of it. All its spans are known ahead of growing, so that one that fails changes nothing.
-func (r *room) do(op api.MemOp) api.MemAns {
+func (r *Room) do(op api.MemOp) api.MemAns {
 	at, from, err := spansOf(op)
 	if err != api.OK {
 		return api.MemAns{Err: err}
@@ -85,7 +98,7 @@ func (r *room) do(op api.MemOp) api.MemAns {
 }
 
 // grow makes the memory have the bytes up to end, if it has fewer, and tells what that costs.
-func (r *room) grow(end int) uint64 {
+func (r *Room) grow(end int) uint64 {
 	were, words := r.words(), (end+wordBytes-1)/wordBytes
 	if words <= were {
 		return 0
@@ -94,7 +107,7 @@ func (r *room) grow(end int) uint64 {
 	return Cost(words) - Cost(were)
 }
 
-func (r *room) words() int { return len(r.bytes) / wordBytes }
+func (r *Room) words() int { return len(r.bytes) / wordBytes }
 
 // part is the memory's own bytes of s, to which it has grown.
-func (r *room) part(s span) []byte { return r.bytes[s.from:s.to] }
+func (r *Room) part(s span) []byte { return r.bytes[s.from:s.to] }
